@@ -1,0 +1,119 @@
+package tests
+
+import (
+	"math"
+	"reflect"
+	"runtime"
+	"strings"
+	"testing"
+
+	"loop.example/g01241/impl"
+)
+
+// anyFunctions are the functions that have landed: each is called with all combinations of anyValues.
+var anyFunctions = []any{
+	impl.IsTurn, impl.MakeTurn, impl.AddTurns, impl.LessTurn, impl.TimesTurn, impl.PartOfTurn, impl.CompareTurns, impl.MirrorTurn,
+	impl.LongHand, impl.AngleOf, impl.SmallAngle, impl.HourOf, impl.MinuteOf, impl.SecondOf, impl.TimeOf, impl.TimesWithLong,
+	impl.TimeText, impl.ParseTime,
+}
+
+var anyInts = []int{math.MinInt, math.MinInt + 1, -maxFraction, -10000, -1, 0, 1, 2, 12, 24, 60, 10000, 1000001, maxFraction, math.MaxInt - 1, math.MaxInt}
+
+var anyStrings = []string{
+	"", "+", ":", "/", "01:05:27+3/11", "01:30:00", "00:00:00+", "00:00:00+/", "00:00:00+1/0", "00:00:00+-9223372036854775808/-1",
+	"99:99:99+999999/1000000", "\x00\xff:\x80:\xfe\xff", "::::::::", strings.Repeat("0", 100000), strings.Repeat("+", 100000), strings.Repeat("/", 1000),
+}
+
+func anyValues(kind reflect.Type) []reflect.Value {
+	var values []reflect.Value
+	switch kind {
+	case reflect.TypeFor[int]():
+		for _, n := range anyInts {
+			values = append(values, reflect.ValueOf(n))
+		}
+	case reflect.TypeFor[string]():
+		for _, s := range anyStrings {
+			values = append(values, reflect.ValueOf(s))
+		}
+	case reflect.TypeFor[impl.Turn]():
+		for _, num := range anyInts {
+			for _, den := range anyInts {
+				values = append(values, reflect.ValueOf(turn(num, den)))
+			}
+		}
+		values = append(values, reflect.ValueOf(turn(1, 11)), reflect.ValueOf(turn(1, 999983)), reflect.ValueOf(turn(999999, 1000000)))
+	default:
+		panic("no values of the type " + kind.String())
+	}
+	return values
+}
+
+func TestAnyArguments(t *testing.T) {
+	for _, f := range anyFunctions {
+		function := reflect.ValueOf(f)
+		name := runtime.FuncForPC(function.Pointer()).Name()
+		withAllArguments(function.Type(), nil, func(args []reflect.Value) {
+			checkCall(t, name, function, args)
+		})
+	}
+}
+
+// withAllArguments calls try with each list of arguments that begins with those in args.
+func withAllArguments(kind reflect.Type, args []reflect.Value, try func([]reflect.Value)) {
+	if len(args) == kind.NumIn() {
+		try(args)
+		return
+	}
+	for _, value := range anyValues(kind.In(len(args))) {
+		withAllArguments(kind, append(args[:len(args):len(args)], value), try)
+	}
+}
+
+// checkCall calls a function twice, with the slices of the first results overwritten in between: the second call must
+// tell the same. A call that fails must have zero results.
+func checkCall(t *testing.T, name string, function reflect.Value, args []reflect.Value) {
+	t.Helper()
+	defer func() {
+		if raised := recover(); raised != nil {
+			t.Errorf("%s of %v panics: %v", name, args, raised)
+		}
+	}()
+	first := function.Call(args)
+	told := make([]any, len(first))
+	for i, result := range first {
+		told[i] = copied(result).Interface()
+		overwrite(result)
+	}
+	for i, result := range function.Call(args) {
+		if !reflect.DeepEqual(result.Interface(), told[i]) {
+			t.Errorf("%s of %v returns %v, and then %v", name, args, told[i], result)
+		}
+	}
+	if last := len(told) - 1; told[last] == false {
+		for _, other := range told[:last] {
+			if v := reflect.ValueOf(other); !v.IsZero() && !(v.Kind() == reflect.Slice && v.Len() == 0) {
+				t.Errorf("%s of %v fails, and returns %v", name, args, other)
+			}
+		}
+	}
+}
+
+func copied(v reflect.Value) reflect.Value {
+	if v.Kind() != reflect.Slice || v.IsNil() {
+		return v
+	}
+	list := reflect.MakeSlice(v.Type(), v.Len(), v.Len())
+	reflect.Copy(list, v)
+	return list
+}
+
+// overwrite makes all elements of a slice zero, those in its spare capacity too.
+func overwrite(v reflect.Value) {
+	if v.Kind() != reflect.Slice {
+		return
+	}
+	whole := v.Slice(0, v.Cap())
+	for i := range whole.Len() {
+		whole.Index(i).SetZero()
+	}
+}
