@@ -36,7 +36,7 @@ func MakeTurn(num int, den int) (Turn, bool) {
 	if !isWithin(num, -maxFraction, maxFraction) || !isWithin(den, 1, maxFraction) {
 		return Turn{}, false
 	}
-	return limitedTurn(num, den)
+	return limitedTurn(lowest(num, den))
 }
 
 // AddTurns returns both together.
@@ -44,7 +44,7 @@ func AddTurns(a Turn, b Turn) (Turn, bool) {
 	if !IsTurn(a) || !IsTurn(b) {
 		return Turn{}, false
 	}
-	return limitedTurn(a.Num*b.Den+b.Num*a.Den, a.Den*b.Den)
+	return limitedTurn(lowest(a.Num*b.Den+b.Num*a.Den, a.Den*b.Den))
 }
 
 // LessTurn returns a less b: by how much a is ahead of b.
@@ -52,7 +52,7 @@ func LessTurn(a Turn, b Turn) (Turn, bool) {
 	if !IsTurn(a) || !IsTurn(b) {
 		return Turn{}, false
 	}
-	return limitedTurn(a.Num*b.Den-b.Num*a.Den, a.Den*b.Den)
+	return limitedTurn(difference(a, b))
 }
 
 // TimesTurn returns k times a turn, k in -10000..10000.
@@ -68,7 +68,7 @@ func PartOfTurn(t Turn, k int) (Turn, bool) {
 	if !IsTurn(t) || !isWithin(k, 1, maxFactor) {
 		return Turn{}, false
 	}
-	return limitedTurn(t.Num, t.Den*k)
+	return limitedTurn(lowest(t.Num, t.Den*k))
 }
 
 // CompareTurns returns -1, 0 or 1, as a is less than b, the same, or greater.
@@ -76,7 +76,7 @@ func CompareTurns(a Turn, b Turn) (int, bool) {
 	if !IsTurn(a) || !IsTurn(b) {
 		return 0, false
 	}
-	return cmp.Compare(a.Num*b.Den, b.Num*a.Den), true
+	return turnOrder(a, b), true
 }
 
 // MirrorTurn returns the turn to the other side: 0 for 0.
@@ -127,15 +127,7 @@ func TimesWithLong(h int, long Turn) ([]Turn, bool) {
 	if !isDial(h) || !IsTurn(long) {
 		return nil, false
 	}
-	times := make([]Turn, 0, h)
-	for hour := range h {
-		t, ok := limitedTurn(hour*long.Den+long.Num, h*long.Den)
-		if !ok {
-			return nil, false
-		}
-		times = append(times, t)
-	}
-	return times, true
+	return allParts(long, h)
 }
 
 // TimeText returns hour, :, minute, :, and second, each with two digits, and, if a part of a second has gone, +, its Num, / and its Den.
@@ -152,7 +144,7 @@ func ParseTime(h int, s string) (Turn, bool) {
 		return Turn{}, false
 	}
 	// Seconds and part are put together in one fraction, as the part alone may have too great a Den for a turn.
-	t, ok := limitedTurn(seconds*part.Den+part.Num, h*secondsOfHour*part.Den)
+	t, ok := limitedTurn(lowest(seconds*part.Den+part.Num, h*secondsOfHour*part.Den))
 	if text, _ := TimeText(h, t); !ok || text != s {
 		return Turn{}, false
 	}
@@ -265,10 +257,31 @@ func manyTimes(t Turn, k int) Turn {
 	return lowest(t.Num*k, t.Den)
 }
 
-// limitedTurn returns num / den without whole turns, den at least 1. It has no bounds for num and den as MakeTurn has,
-// since sums and parts of turns go beyond them. It fails if the Den is too great.
-func limitedTurn(num int, den int) (Turn, bool) {
-	t := lowest(num, den)
+// allParts returns all turns, increasing, of which k times is t: k of them, k at least 1. It fails if one is no turn;
+// t itself needs no limit.
+func allParts(t Turn, k int) ([]Turn, bool) {
+	parts := make([]Turn, 0, k)
+	for around := range k {
+		part, ok := limitedTurn(lowest(around*t.Den+t.Num, k*t.Den))
+		if !ok {
+			return nil, false
+		}
+		parts = append(parts, part)
+	}
+	return parts, true
+}
+
+// difference returns a less b, however great its Den is.
+func difference(a Turn, b Turn) Turn {
+	return lowest(a.Num*b.Den-b.Num*a.Den, a.Den*b.Den)
+}
+
+func turnOrder(a Turn, b Turn) int {
+	return cmp.Compare(a.Num*b.Den, b.Num*a.Den)
+}
+
+// limitedTurn returns a turn that may have too great a Den. It fails if it has.
+func limitedTurn(t Turn) (Turn, bool) {
 	if t.Den > MaxDen {
 		return Turn{}, false
 	}

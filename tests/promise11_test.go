@@ -4,6 +4,7 @@ import (
 	"math"
 	"reflect"
 	"runtime"
+	"slices"
 	"strings"
 	"testing"
 
@@ -15,6 +16,8 @@ var anyFunctions = []any{
 	impl.IsTurn, impl.MakeTurn, impl.AddTurns, impl.LessTurn, impl.TimesTurn, impl.PartOfTurn, impl.CompareTurns, impl.MirrorTurn,
 	impl.LongHand, impl.AngleOf, impl.SmallAngle, impl.HourOf, impl.MinuteOf, impl.SecondOf, impl.TimeOf, impl.TimesWithLong,
 	impl.TimeText, impl.ParseTime,
+	impl.IsHand, impl.HandAt, impl.AheadAt, impl.RelativeHand, impl.CountMeets, impl.MeetTimes, impl.AheadTimes, impl.OppositeTimes,
+	impl.FirstMeet, impl.NextMeet, impl.MeetPlaces, impl.ThreeMeet, impl.TimesAtPlace, impl.AreSpread, impl.GapsAt, impl.HandsOfDial,
 }
 
 var anyInts = []int{math.MinInt, math.MinInt + 1, -maxFraction, -10000, -1, 0, 1, 2, 12, 24, 60, 10000, 1000001, maxFraction, math.MaxInt - 1, math.MaxInt}
@@ -22,6 +25,22 @@ var anyInts = []int{math.MinInt, math.MinInt + 1, -maxFraction, -10000, -1, 0, 1
 var anyStrings = []string{
 	"", "+", ":", "/", "01:05:27+3/11", "01:30:00", "00:00:00+", "00:00:00+/", "00:00:00+1/0", "00:00:00+-9223372036854775808/-1",
 	"99:99:99+999999/1000000", "\x00\xff:\x80:\xfe\xff", "::::::::", strings.Repeat("0", 100000), strings.Repeat("+", 100000), strings.Repeat("/", 1000),
+}
+
+var anyHands = []impl.Hand{
+	{}, hand(0, 1, 0), hand(0, 1, 1), hand(1, 2, -1), hand(5, 12, 12), hand(1, 997, 400), hand(999, 1000, -400), hand(1, 1001, 1), hand(0, 1, 401),
+	hand(math.MinInt, math.MinInt, math.MinInt), hand(math.MaxInt, math.MaxInt, math.MaxInt), hand(0, 1, math.MinInt), hand(1, math.MinInt, 0), hand(1, 0, 1),
+}
+
+// anyHandLists have room behind their lengths, with hands in it that are to be left alone.
+func anyHandLists() [][]impl.Hand {
+	lists := [][]impl.Hand{nil, {}, anyHands, slices.Repeat(anyHands[1:7], 2), slices.Repeat(anyHands[1:5], 1000)}
+	for from := range anyHands {
+		for _, to := range []int{from, from + 1, from + 2, from + 3} {
+			lists = append(lists, slices.Clone(anyHands)[from:min(to, len(anyHands))])
+		}
+	}
+	return append(lists, lists[3][:11], lists[3][1:4])
 }
 
 func anyValues(kind reflect.Type) []reflect.Value {
@@ -42,6 +61,14 @@ func anyValues(kind reflect.Type) []reflect.Value {
 			}
 		}
 		values = append(values, reflect.ValueOf(turn(1, 11)), reflect.ValueOf(turn(1, 999983)), reflect.ValueOf(turn(999999, 1000000)))
+	case reflect.TypeFor[impl.Hand]():
+		for _, a := range anyHands {
+			values = append(values, reflect.ValueOf(a))
+		}
+	case reflect.TypeFor[[]impl.Hand]():
+		for _, list := range anyHandLists() {
+			values = append(values, reflect.ValueOf(list))
+		}
 	default:
 		panic("no values of the type " + kind.String())
 	}
@@ -69,8 +96,9 @@ func withAllArguments(kind reflect.Type, args []reflect.Value, try func([]reflec
 	}
 }
 
-// checkCall calls a function twice, with the slices of the first results overwritten in between: the second call must
-// tell the same. A call that fails must have zero results.
+// checkCall calls a function twice, with the slices of the first results overwritten in between, and without the room behind
+// the slices of the arguments the second time: it must tell the same, and leave its arguments with this room as they were.
+// A call that fails must have zero results.
 func checkCall(t *testing.T, name string, function reflect.Value, args []reflect.Value) {
 	t.Helper()
 	defer func() {
@@ -78,26 +106,56 @@ func checkCall(t *testing.T, name string, function reflect.Value, args []reflect
 			t.Errorf("%s of %v panics: %v", name, args, raised)
 		}
 	}()
+	before, clipped := each(args, whole), each(args, copied)
 	first := function.Call(args)
 	told := make([]any, len(first))
 	for i, result := range first {
 		told[i] = copied(result).Interface()
 		overwrite(result)
 	}
-	for i, result := range function.Call(args) {
+	for i, arg := range each(args, whole) {
+		if !reflect.DeepEqual(arg.Interface(), before[i].Interface()) {
+			t.Errorf("%s modifies its argument %v to %v", name, before[i], arg)
+		}
+	}
+	for i, result := range function.Call(clipped) {
 		if !reflect.DeepEqual(result.Interface(), told[i]) {
 			t.Errorf("%s of %v returns %v, and then %v", name, args, told[i], result)
 		}
 	}
-	if last := len(told) - 1; told[last] == false {
-		for _, other := range told[:last] {
-			if v := reflect.ValueOf(other); !v.IsZero() && !(v.Kind() == reflect.Slice && v.Len() == 0) {
-				t.Errorf("%s of %v fails, and returns %v", name, args, other)
-			}
+	checkFailure(t, name, args, told)
+}
+
+func checkFailure(t *testing.T, name string, args []reflect.Value, told []any) {
+	t.Helper()
+	last := len(told) - 1
+	if told[last] != false {
+		return
+	}
+	for _, other := range told[:last] {
+		if v := reflect.ValueOf(other); !v.IsZero() && !(v.Kind() == reflect.Slice && v.Len() == 0) {
+			t.Errorf("%s of %v fails, and returns %v", name, args, other)
 		}
 	}
 }
 
+func each(values []reflect.Value, change func(reflect.Value) reflect.Value) []reflect.Value {
+	var list []reflect.Value
+	for _, v := range values {
+		list = append(list, change(v))
+	}
+	return list
+}
+
+// whole returns a copy of a slice together with the room behind it, or else the value.
+func whole(v reflect.Value) reflect.Value {
+	if v.Kind() != reflect.Slice || v.IsNil() {
+		return v
+	}
+	return copied(v.Slice(0, v.Cap()))
+}
+
+// copied returns a copy of a slice without room behind it, or else the value.
 func copied(v reflect.Value) reflect.Value {
 	if v.Kind() != reflect.Slice || v.IsNil() {
 		return v
@@ -112,8 +170,8 @@ func overwrite(v reflect.Value) {
 	if v.Kind() != reflect.Slice {
 		return
 	}
-	whole := v.Slice(0, v.Cap())
-	for i := range whole.Len() {
-		whole.Index(i).SetZero()
+	all := v.Slice(0, v.Cap())
+	for i := range all.Len() {
+		all.Index(i).SetZero()
 	}
 }
