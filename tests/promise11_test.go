@@ -18,6 +18,9 @@ var anyFunctions = []any{
 	impl.TimeText, impl.ParseTime,
 	impl.IsHand, impl.HandAt, impl.AheadAt, impl.RelativeHand, impl.CountMeets, impl.MeetTimes, impl.AheadTimes, impl.OppositeTimes,
 	impl.FirstMeet, impl.NextMeet, impl.MeetPlaces, impl.ThreeMeet, impl.TimesAtPlace, impl.AreSpread, impl.GapsAt, impl.HandsOfDial,
+	impl.IsSpan, impl.MakeSpan, impl.AddSpans, impl.CompareSpans, impl.CommonSpan, impl.IsClock, impl.ShownAfter, impl.AheadAfter,
+	impl.RightEvery, impl.FirstRight, impl.FirstShown, impl.AgreeEvery, impl.FirstAgree, impl.ClockOfReadings, impl.SetRight,
+	impl.SpanText, impl.ParseSpan,
 }
 
 var anyInts = []int{math.MinInt, math.MinInt + 1, -maxFraction, -10000, -1, 0, 1, 2, 12, 24, 60, 10000, 1000001, maxFraction, math.MaxInt - 1, math.MaxInt}
@@ -25,11 +28,23 @@ var anyInts = []int{math.MinInt, math.MinInt + 1, -maxFraction, -10000, -1, 0, 1
 var anyStrings = []string{
 	"", "+", ":", "/", "01:05:27+3/11", "01:30:00", "00:00:00+", "00:00:00+/", "00:00:00+1/0", "00:00:00+-9223372036854775808/-1",
 	"99:99:99+999999/1000000", "\x00\xff:\x80:\xfe\xff", "::::::::", strings.Repeat("0", 100000), strings.Repeat("+", 100000), strings.Repeat("/", 1000),
+	"36/1", "1/0", "0/0", "-1/2", "2/4", "-9223372036854775808/-9223372036854775808", "1/" + strings.Repeat("9", 100000), "\x00/\xff",
 }
 
 var anyHands = []impl.Hand{
 	{}, hand(0, 1, 0), hand(0, 1, 1), hand(1, 2, -1), hand(5, 12, 12), hand(1, 997, 400), hand(999, 1000, -400), hand(1, 1001, 1), hand(0, 1, 401),
 	hand(math.MinInt, math.MinInt, math.MinInt), hand(math.MaxInt, math.MaxInt, math.MaxInt), hand(0, 1, math.MinInt), hand(1, math.MinInt, 0), hand(1, 0, 1),
+}
+
+var anySpans = []impl.Span{
+	{}, span(0, 1), span(1, 2), span(1, 10000), span(1000000, 9999), span(1000000, 1), span(1, 10001), span(2, 4), span(1, 0),
+	span(math.MinInt, math.MinInt), span(math.MaxInt, 1), span(1, math.MinInt),
+}
+
+var anyClocks = []impl.Clock{
+	{}, clock(0, 1, 1, 1), clock(1, 2, 1, 1), clock(1, 2, 73, 72), clock(999, 1000, 1000, 1), clock(1, 997, 1, 1000), clock(998, 999, 1000, 999), clock(1, 137, 1, 74),
+	clock(1, 1001, 1, 1), clock(0, 1, 2, 2), clock(0, 1, 0, 1), clock(0, 1, 1, 0), clock(0, 1, 0, 0), clock(0, 1, math.MinInt, math.MinInt), clock(0, 1, math.MaxInt, 1),
+	clock(0, 0, 1, 1), clock(math.MinInt, math.MinInt, math.MinInt, math.MinInt), clock(math.MaxInt, math.MaxInt, math.MaxInt, math.MaxInt), clock(0, 1, 1, math.MinInt),
 }
 
 // anyHandLists have room behind their lengths, with hands in it that are to be left alone.
@@ -64,6 +79,14 @@ func anyValues(kind reflect.Type) []reflect.Value {
 	case reflect.TypeFor[impl.Hand]():
 		for _, a := range anyHands {
 			values = append(values, reflect.ValueOf(a))
+		}
+	case reflect.TypeFor[impl.Span]():
+		for _, s := range anySpans {
+			values = append(values, reflect.ValueOf(s))
+		}
+	case reflect.TypeFor[impl.Clock]():
+		for _, c := range anyClocks {
+			values = append(values, reflect.ValueOf(c))
 		}
 	case reflect.TypeFor[[]impl.Hand]():
 		for _, list := range anyHandLists() {
