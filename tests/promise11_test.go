@@ -21,6 +21,9 @@ var anyFunctions = []any{
 	impl.IsSpan, impl.MakeSpan, impl.AddSpans, impl.CompareSpans, impl.CommonSpan, impl.IsClock, impl.ShownAfter, impl.AheadAfter,
 	impl.RightEvery, impl.FirstRight, impl.FirstShown, impl.AgreeEvery, impl.FirstAgree, impl.ClockOfReadings, impl.SetRight,
 	impl.SpanText, impl.ParseSpan,
+	impl.StrokesAt, impl.StrokesOfTurn, impl.StrokesBetween, impl.StrokeNumber, impl.HeardFrom, impl.HalvesOfHeard, impl.IsHeard,
+	impl.KnownAfter, impl.LongestUnknown, impl.NextHeard, impl.StepsBack, impl.StrokesToMend, impl.HalfOfWheel, impl.WaitForStrokes,
+	impl.MostInHalves, impl.CountHeardOnce,
 }
 
 var anyInts = []int{math.MinInt, math.MinInt + 1, -maxFraction, -10000, -1, 0, 1, 2, 12, 24, 60, 10000, 1000001, maxFraction, math.MaxInt - 1, math.MaxInt}
@@ -58,6 +61,19 @@ func anyHandLists() [][]impl.Hand {
 	return append(lists, lists[3][:11], lists[3][1:4])
 }
 
+// anyIntLists have room behind their lengths, with numbers in it that are to be left alone.
+func anyIntLists() [][]int {
+	numbers := []int{12, 1, 1, 1, 2, 1, 3, 1, 24, 0, 1, 25, 2, -1, 1, math.MinInt, math.MaxInt}
+	lists := [][]int{nil, {}, numbers}
+	for from := range numbers {
+		for _, to := range []int{from, from + 1, from + 2, from + 4} {
+			lists = append(lists, slices.Clone(numbers)[from:min(to, len(numbers))])
+		}
+	}
+	many := struckBy(12, 5)
+	return append(lists, many[:59], many[:60], many[:61], many[24:84], many, slices.Repeat(numbers, 1000), lists[2][:8], lists[2][1:4])
+}
+
 func anyValues(kind reflect.Type) []reflect.Value {
 	var values []reflect.Value
 	switch kind {
@@ -87,6 +103,10 @@ func anyValues(kind reflect.Type) []reflect.Value {
 	case reflect.TypeFor[impl.Clock]():
 		for _, c := range anyClocks {
 			values = append(values, reflect.ValueOf(c))
+		}
+	case reflect.TypeFor[[]int]():
+		for _, list := range anyIntLists() {
+			values = append(values, reflect.ValueOf(list))
 		}
 	case reflect.TypeFor[[]impl.Hand]():
 		for _, list := range anyHandLists() {
