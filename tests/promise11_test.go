@@ -24,6 +24,9 @@ var anyFunctions = []any{
 	impl.StrokesAt, impl.StrokesOfTurn, impl.StrokesBetween, impl.StrokeNumber, impl.HeardFrom, impl.HalvesOfHeard, impl.IsHeard,
 	impl.KnownAfter, impl.LongestUnknown, impl.NextHeard, impl.StepsBack, impl.StrokesToMend, impl.HalfOfWheel, impl.WaitForStrokes,
 	impl.MostInHalves, impl.CountHeardOnce,
+	impl.IsSeen, impl.SeenOf, impl.TimeSeen, impl.IsTrueSeen, impl.ExchangeSeen, impl.ExchangedTime, impl.AllExchanged, impl.CountUnsure,
+	impl.TimesAlike, impl.MirrorSeen, impl.TurnSeen, impl.TimesTurned, impl.TurnsOfDial, impl.TimesWithAngle, impl.OwnMirrors,
+	impl.TimesInGlass,
 }
 
 var anyInts = []int{math.MinInt, math.MinInt + 1, -maxFraction, -10000, -1, 0, 1, 2, 12, 24, 60, 10000, 1000001, maxFraction, math.MaxInt - 1, math.MaxInt}
@@ -48,6 +51,12 @@ var anyClocks = []impl.Clock{
 	{}, clock(0, 1, 1, 1), clock(1, 2, 1, 1), clock(1, 2, 73, 72), clock(999, 1000, 1000, 1), clock(1, 997, 1, 1000), clock(998, 999, 1000, 999), clock(1, 137, 1, 74),
 	clock(1, 1001, 1, 1), clock(0, 1, 2, 2), clock(0, 1, 0, 1), clock(0, 1, 1, 0), clock(0, 1, 0, 0), clock(0, 1, math.MinInt, math.MinInt), clock(0, 1, math.MaxInt, 1),
 	clock(0, 0, 1, 1), clock(math.MinInt, math.MinInt, math.MinInt, math.MinInt), clock(math.MaxInt, math.MaxInt, math.MaxInt, math.MaxInt), clock(0, 1, 1, math.MinInt),
+}
+
+var anySeen = []impl.Seen{
+	{}, seen(0, 1, 0, 1), seen(1, 4, 0, 1), seen(0, 1, 1, 4), seen(1, 143, 12, 143), seen(1, 3, 2, 3), seen(1, 999983, 1, 2), seen(1, 999983, 12, 999983),
+	seen(1, 999983, 1, 999983), seen(999999, 1000000, 1, 1000000), seen(1, 1000001, 0, 1), seen(0, 1, 1, 1000001), seen(0, 0, 0, 1), seen(0, 1, 0, 0), seen(2, 4, 0, 1),
+	seen(math.MinInt, math.MinInt, math.MinInt, math.MinInt), seen(math.MaxInt, math.MaxInt, math.MaxInt, math.MaxInt), seen(0, 1, 1, math.MinInt), seen(math.MinInt, 1, 0, 1),
 }
 
 // anyHandLists have room behind their lengths, with hands in it that are to be left alone.
@@ -103,6 +112,10 @@ func anyValues(kind reflect.Type) []reflect.Value {
 	case reflect.TypeFor[impl.Clock]():
 		for _, c := range anyClocks {
 			values = append(values, reflect.ValueOf(c))
+		}
+	case reflect.TypeFor[impl.Seen]():
+		for _, s := range anySeen {
+			values = append(values, reflect.ValueOf(s))
 		}
 	case reflect.TypeFor[[]int]():
 		for _, list := range anyIntLists() {
