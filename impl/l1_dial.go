@@ -299,7 +299,7 @@ func lowest(num int, den int) Turn {
 }
 
 // commonDivisor returns the greatest common divisor of two numbers of which none is less than 0, and not both are 0.
-func commonDivisor(a int, b int) int {
+func commonDivisor[N ~int](a N, b N) N {
 	for b != 0 {
 		a, b = b, a%b
 	}

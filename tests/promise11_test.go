@@ -27,6 +27,9 @@ var anyFunctions = []any{
 	impl.IsSeen, impl.SeenOf, impl.TimeSeen, impl.IsTrueSeen, impl.ExchangeSeen, impl.ExchangedTime, impl.AllExchanged, impl.CountUnsure,
 	impl.TimesAlike, impl.MirrorSeen, impl.TurnSeen, impl.TimesTurned, impl.TurnsOfDial, impl.TimesWithAngle, impl.OwnMirrors,
 	impl.TimesInGlass,
+	impl.IsPair, impl.IsTrain, impl.RatioOf, impl.TurnsOfLast, impl.DirectionOf, impl.BackTrain, impl.MeshesUntilSame, impl.TurnsUntilSame,
+	impl.FirstPair, impl.FirstTrain, impl.FewestTeeth, impl.NearestPair, impl.MotionWorks, impl.FirstMotionWork, impl.TeethOf,
+	impl.CompareRatios,
 }
 
 var anyInts = []int{math.MinInt, math.MinInt + 1, -maxFraction, -10000, -1, 0, 1, 2, 12, 24, 60, 10000, 1000001, maxFraction, math.MaxInt - 1, math.MaxInt}
@@ -59,6 +62,11 @@ var anySeen = []impl.Seen{
 	seen(math.MinInt, math.MinInt, math.MinInt, math.MinInt), seen(math.MaxInt, math.MaxInt, math.MaxInt, math.MaxInt), seen(0, 1, 1, math.MinInt), seen(math.MinInt, 1, 0, 1),
 }
 
+var anyPairs = []impl.Pair{
+	{}, pair(6, 120), pair(10, 30), pair(12, 48), pair(120, 119), pair(7, 6), pair(5, 6), pair(6, 121), pair(0, 10), pair(10, 0), pair(-6, -6),
+	pair(math.MinInt, math.MinInt), pair(math.MaxInt, math.MaxInt), pair(math.MinInt, 6), pair(120, math.MaxInt), pair(math.MaxInt, 1),
+}
+
 // anyHandLists have room behind their lengths, with hands in it that are to be left alone.
 func anyHandLists() [][]impl.Hand {
 	lists := [][]impl.Hand{nil, {}, anyHands, slices.Repeat(anyHands[1:7], 2), slices.Repeat(anyHands[1:5], 1000)}
@@ -81,6 +89,17 @@ func anyIntLists() [][]int {
 	}
 	many := struckBy(12, 5)
 	return append(lists, many[:59], many[:60], many[:61], many[24:84], many, slices.Repeat(numbers, 1000), lists[2][:8], lists[2][1:4])
+}
+
+// anyTrains have room behind their lengths, with pairs in it that are to be left alone.
+func anyTrains() [][]impl.Pair {
+	lists := [][]impl.Pair{nil, {}, anyPairs, slices.Clone(anyPairs[1:6]), slices.Repeat(anyPairs[1:5], 1000)}
+	for from := range anyPairs {
+		for to := from; to <= from+4; to++ {
+			lists = append(lists, slices.Clone(anyPairs)[from:min(to, len(anyPairs))])
+		}
+	}
+	return append(lists, lists[3][:4], lists[3][1:3])
 }
 
 func anyValues(kind reflect.Type) []reflect.Value {
@@ -117,12 +136,20 @@ func anyValues(kind reflect.Type) []reflect.Value {
 		for _, s := range anySeen {
 			values = append(values, reflect.ValueOf(s))
 		}
+	case reflect.TypeFor[impl.Pair]():
+		for _, p := range anyPairs {
+			values = append(values, reflect.ValueOf(p))
+		}
 	case reflect.TypeFor[[]int]():
 		for _, list := range anyIntLists() {
 			values = append(values, reflect.ValueOf(list))
 		}
 	case reflect.TypeFor[[]impl.Hand]():
 		for _, list := range anyHandLists() {
+			values = append(values, reflect.ValueOf(list))
+		}
+	case reflect.TypeFor[[]impl.Pair]():
+		for _, list := range anyTrains() {
 			values = append(values, reflect.ValueOf(list))
 		}
 	default:
@@ -167,6 +194,9 @@ func checkCall(t *testing.T, name string, function reflect.Value, args []reflect
 	told := make([]any, len(first))
 	for i, result := range first {
 		told[i] = copied(result).Interface()
+		if shares(result) {
+			t.Errorf("%s of %v returns slices that share memory", name, args)
+		}
 		overwrite(result)
 	}
 	for i, arg := range each(args, whole) {
@@ -211,14 +241,31 @@ func whole(v reflect.Value) reflect.Value {
 	return copied(v.Slice(0, v.Cap()))
 }
 
-// copied returns a copy of a slice without room behind it, or else the value.
+// copied returns a copy of a slice, and of the slices in it, without room behind it, or else the value.
 func copied(v reflect.Value) reflect.Value {
 	if v.Kind() != reflect.Slice || v.IsNil() {
 		return v
 	}
 	list := reflect.MakeSlice(v.Type(), v.Len(), v.Len())
-	reflect.Copy(list, v)
+	for i := range v.Len() {
+		list.Index(i).Set(copied(v.Index(i)))
+	}
 	return list
+}
+
+// shares tells whether slices in a slice share memory: to overwrite the one must not change those behind it. Those are overwritten.
+func shares(v reflect.Value) bool {
+	if v.Kind() != reflect.Slice || v.Type().Elem().Kind() != reflect.Slice {
+		return false
+	}
+	before := copied(v)
+	for i := range v.Len() {
+		if !reflect.DeepEqual(copied(v.Index(i)).Interface(), before.Index(i).Interface()) {
+			return true
+		}
+		overwrite(v.Index(i))
+	}
+	return false
 }
 
 // overwrite makes all elements of a slice zero, those in its spare capacity too.
