@@ -30,6 +30,8 @@ var anyFunctions = []any{
 	impl.IsPair, impl.IsTrain, impl.RatioOf, impl.TurnsOfLast, impl.DirectionOf, impl.BackTrain, impl.MeshesUntilSame, impl.TurnsUntilSame,
 	impl.FirstPair, impl.FirstTrain, impl.FewestTeeth, impl.NearestPair, impl.MotionWorks, impl.FirstMotionWork, impl.TeethOf,
 	impl.CompareRatios,
+	impl.TellOther, impl.SameLook, impl.IsLeapRule, impl.IsLeapYear, impl.CountLeaps, impl.LeapsOfCycle, impl.DaysUpTo, impl.YearOfDay,
+	impl.WeekdayOf, impl.WeekCycle, impl.OffBy, impl.YearsForDay, impl.BestRules, impl.MonthsOf, impl.SpreadLeaps, impl.NextLeap,
 }
 
 var anyInts = []int{math.MinInt, math.MinInt + 1, -maxFraction, -10000, -1, 0, 1, 2, 12, 24, 60, 10000, 1000001, maxFraction, math.MaxInt - 1, math.MaxInt}
@@ -65,6 +67,13 @@ var anySeen = []impl.Seen{
 var anyPairs = []impl.Pair{
 	{}, pair(6, 120), pair(10, 30), pair(12, 48), pair(120, 119), pair(7, 6), pair(5, 6), pair(6, 121), pair(0, 10), pair(10, 0), pair(-6, -6),
 	pair(math.MinInt, math.MinInt), pair(math.MaxInt, math.MaxInt), pair(math.MinInt, 6), pair(120, math.MaxInt), pair(math.MaxInt, 1),
+}
+
+var anyRules = []impl.LeapRule{
+	{}, rule(4, 100, 400), rule(4, 0, 0), rule(1, 0, 0), rule(1, 10000, 0), rule(2500, 5000, 10000), rule(10000, 0, 0), rule(2, 4, 0), rule(10001, 0, 0),
+	rule(4, 0, 400), rule(0, 100, 400), rule(4, 4, 0), rule(4, 102, 0), rule(0, 0, 400), rule(-4, -8, -16), rule(-1, 0, 0), rule(1, -1, 1), rule(4, 100, -400),
+	rule(math.MinInt, math.MinInt, math.MinInt), rule(math.MaxInt, math.MaxInt, math.MaxInt), rule(1, math.MinInt, 0), rule(1, math.MaxInt, 0), rule(1, 2, math.MinInt),
+	rule(1, 2, math.MaxInt-1), rule(-1, math.MinInt, 0), rule(1, -1, math.MinInt),
 }
 
 // anyHandLists have room behind their lengths, with hands in it that are to be left alone.
@@ -139,6 +148,10 @@ func anyValues(kind reflect.Type) []reflect.Value {
 	case reflect.TypeFor[impl.Pair]():
 		for _, p := range anyPairs {
 			values = append(values, reflect.ValueOf(p))
+		}
+	case reflect.TypeFor[impl.LeapRule]():
+		for _, r := range anyRules {
+			values = append(values, reflect.ValueOf(r))
 		}
 	case reflect.TypeFor[[]int]():
 		for _, list := range anyIntLists() {
