@@ -32,6 +32,9 @@ var anyFunctions = []any{
 	impl.CompareRatios,
 	impl.TellOther, impl.SameLook, impl.IsLeapRule, impl.IsLeapYear, impl.CountLeaps, impl.LeapsOfCycle, impl.DaysUpTo, impl.YearOfDay,
 	impl.WeekdayOf, impl.WeekCycle, impl.OffBy, impl.YearsForDay, impl.BestRules, impl.MonthsOf, impl.SpreadLeaps, impl.NextLeap,
+	impl.IsTune, impl.PhrasesOf, impl.PlayedAt, impl.StandsAt, impl.HoursUntilSame, impl.QuartersOfHeard, impl.NotesUpTo, impl.BellUpTo,
+	impl.NextQuarterWith, impl.BellsOf, impl.TurnTune, impl.MirrorTune, impl.IsSameTune, impl.FewestHeard, impl.FullHours, impl.TuneText,
+	impl.ParseTune,
 }
 
 var anyInts = []int{math.MinInt, math.MinInt + 1, -maxFraction, -10000, -1, 0, 1, 2, 12, 24, 60, 10000, 1000001, maxFraction, math.MaxInt - 1, math.MaxInt}
@@ -39,6 +42,7 @@ var anyInts = []int{math.MinInt, math.MinInt + 1, -maxFraction, -10000, -1, 0, 1
 var anyStrings = []string{
 	"", "+", ":", "/", "01:05:27+3/11", "01:30:00", "00:00:00+", "00:00:00+/", "00:00:00+1/0", "00:00:00+-9223372036854775808/-1",
 	"99:99:99+999999/1000000", "\x00\xff:\x80:\xfe\xff", "::::::::", strings.Repeat("0", 100000), strings.Repeat("+", 100000), strings.Repeat("/", 1000),
+	"1", "12/21/11", "1/1/1/1/1/1/1/1/1/1/1/2", "12345678/8", "1//2", "1/9", strings.Repeat("1/", 100000) + "1",
 	"36/1", "1/0", "0/0", "-1/2", "2/4", "-9223372036854775808/-9223372036854775808", "1/" + strings.Repeat("9", 100000), "\x00/\xff",
 }
 
@@ -111,6 +115,18 @@ func anyTrains() [][]impl.Pair {
 	return append(lists, lists[3][:4], lists[3][1:3])
 }
 
+// anyTextLists have room behind their lengths, with texts in it that are to be left alone.
+func anyTextLists() [][]string {
+	texts := []string{"12", "21", "11", "2111", "1", "1", "1", "12345678", "8", "122111", "9", "", "1\xff", "123456781", strings.Repeat("1", 100000)}
+	lists := [][]string{nil, {}, texts, slices.Repeat(texts[:3], 4), slices.Repeat(texts, 1000)}
+	for from := range texts {
+		for _, to := range []int{from, from + 1, from + 3, from + 8} {
+			lists = append(lists, slices.Clone(texts)[from:min(to, len(texts))])
+		}
+	}
+	return append(lists, lists[3][:11], lists[3][1:4], lists[3][3:3])
+}
+
 func anyValues(kind reflect.Type) []reflect.Value {
 	var values []reflect.Value
 	switch kind {
@@ -155,6 +171,10 @@ func anyValues(kind reflect.Type) []reflect.Value {
 		}
 	case reflect.TypeFor[[]int]():
 		for _, list := range anyIntLists() {
+			values = append(values, reflect.ValueOf(list))
+		}
+	case reflect.TypeFor[[]string]():
+		for _, list := range anyTextLists() {
 			values = append(values, reflect.ValueOf(list))
 		}
 	case reflect.TypeFor[[]impl.Hand]():
