@@ -35,6 +35,9 @@ var anyFunctions = []any{
 	impl.IsTune, impl.PhrasesOf, impl.PlayedAt, impl.StandsAt, impl.HoursUntilSame, impl.QuartersOfHeard, impl.NotesUpTo, impl.BellUpTo,
 	impl.NextQuarterWith, impl.BellsOf, impl.TurnTune, impl.MirrorTune, impl.IsSameTune, impl.FewestHeard, impl.FullHours, impl.TuneText,
 	impl.ParseTune,
+	impl.IsClue, impl.IsPuzzle, impl.DoesFit, impl.Solutions, impl.CountSolutions, impl.FirstSolution, impl.SolutionTimes, impl.IsSolved,
+	impl.NeedlessClues, impl.DropClue, impl.AddClue, impl.LeftByClues, impl.BestClue, impl.HarderPuzzle, impl.MakePuzzle, impl.PuzzleText,
+	impl.ParsePuzzle,
 }
 
 var anyInts = []int{math.MinInt, math.MinInt + 1, -maxFraction, -10000, -1, 0, 1, 2, 12, 24, 60, 10000, 1000001, maxFraction, math.MaxInt - 1, math.MaxInt}
@@ -44,6 +47,8 @@ var anyStrings = []string{
 	"99:99:99+999999/1000000", "\x00\xff:\x80:\xfe\xff", "::::::::", strings.Repeat("0", 100000), strings.Repeat("+", 100000), strings.Repeat("/", 1000),
 	"1", "12/21/11", "1/1/1/1/1/1/1/1/1/1/1/2", "12345678/8", "1//2", "1/9", strings.Repeat("1/", 100000) + "1",
 	"36/1", "1/0", "0/0", "-1/2", "2/4", "-9223372036854775808/-9223372036854775808", "1/" + strings.Repeat("9", 100000), "\x00/\xff",
+	"12:", "12:0.3.0,1.15.0,2.9.0", "24:1.60.59", "25:0.3.0", "12:1.0.0", "12:1.-1.-9223372036854775808", "12:0.3.0,", "12:,,,,,,", "12:" + strings.Repeat("0.3.0,", 100000),
+	strings.Repeat(":", 100000), strings.Repeat(",", 100000), strings.Repeat(".", 100000), "12:" + strings.Repeat("9", 100000), "\x00:\xff.\x80.\xfe,\xff",
 }
 
 var anyHands = []impl.Hand{
@@ -78,6 +83,12 @@ var anyRules = []impl.LeapRule{
 	rule(4, 0, 400), rule(0, 100, 400), rule(4, 4, 0), rule(4, 102, 0), rule(0, 0, 400), rule(-4, -8, -16), rule(-1, 0, 0), rule(1, -1, 1), rule(4, 100, -400),
 	rule(math.MinInt, math.MinInt, math.MinInt), rule(math.MaxInt, math.MaxInt, math.MaxInt), rule(1, math.MinInt, 0), rule(1, math.MaxInt, 0), rule(1, 2, math.MinInt),
 	rule(1, 2, math.MaxInt-1), rule(-1, math.MinInt, 0), rule(1, -1, math.MinInt),
+}
+
+var anyClues = []impl.Clue{
+	{}, clue(0, 3, 0), clue(1, 15, 0), clue(1, 60, 59), clue(2, 9, 0), clue(3, 0, 0), clue(3, 1, 0), clue(4, 4, 0), clue(5, 12, 0), clue(1, 0, 0), clue(1, -1, 0), clue(1, math.MinInt, -1),
+	clue(0, 3, 1), clue(0, 24, 0), clue(4, 0, 0), clue(-1, 0, 0), clue(6, 0, 0), clue(math.MinInt, math.MinInt, math.MinInt), clue(math.MaxInt, math.MaxInt, math.MaxInt),
+	clue(1, math.MaxInt, math.MaxInt-1), clue(5, math.MinInt, 0), clue(1, 2, math.MinInt),
 }
 
 // anyHandLists have room behind their lengths, with hands in it that are to be left alone.
@@ -127,6 +138,25 @@ func anyTextLists() [][]string {
 	return append(lists, lists[3][:11], lists[3][1:4], lists[3][3:3])
 }
 
+// anyPuzzles have room behind their clues, with clues in it that are to be left alone.
+func anyPuzzles() []impl.Puzzle {
+	lists := [][]impl.Clue{nil, {}, slices.Clone(anyClues), slices.Repeat(anyClues[1:5], 2), slices.Repeat(anyClues, 1000)}
+	for from := range anyClues {
+		for _, to := range []int{from, from + 1, from + 3, from + 6} {
+			lists = append(lists, slices.Clone(anyClues)[from:min(to, len(anyClues))])
+		}
+	}
+	lists = append(lists, lists[3][:6], lists[3][:5], lists[3][1:3], lists[3][:7])
+	var puzzles []impl.Puzzle
+	for _, list := range lists {
+		puzzles = append(puzzles, puzzle(12, list...))
+	}
+	for _, h := range append(anyInts, 3, 25) {
+		puzzles = append(puzzles, puzzle(h), puzzle(h, lists[3][:6]...), puzzle(h, lists[3][1:2]...))
+	}
+	return puzzles
+}
+
 func anyValues(kind reflect.Type) []reflect.Value {
 	var values []reflect.Value
 	switch kind {
@@ -168,6 +198,14 @@ func anyValues(kind reflect.Type) []reflect.Value {
 	case reflect.TypeFor[impl.LeapRule]():
 		for _, r := range anyRules {
 			values = append(values, reflect.ValueOf(r))
+		}
+	case reflect.TypeFor[impl.Clue]():
+		for _, c := range anyClues {
+			values = append(values, reflect.ValueOf(c))
+		}
+	case reflect.TypeFor[impl.Puzzle]():
+		for _, p := range anyPuzzles() {
+			values = append(values, reflect.ValueOf(p))
 		}
 	case reflect.TypeFor[[]int]():
 		for _, list := range anyIntLists() {
@@ -266,16 +304,23 @@ func each(values []reflect.Value, change func(reflect.Value) reflect.Value) []re
 	return list
 }
 
-// whole returns a copy of a slice together with the room behind it, or else the value.
+// whole returns a copy of a slice, or of a struct with slices in it, together with the room behind it, or else the value.
 func whole(v reflect.Value) reflect.Value {
+	if hasSlices(v) {
+		return eachField(v, whole)
+	}
 	if v.Kind() != reflect.Slice || v.IsNil() {
 		return v
 	}
 	return copied(v.Slice(0, v.Cap()))
 }
 
-// copied returns a copy of a slice, and of the slices in it, without room behind it, or else the value.
+// copied returns a copy of a slice, or of a struct with slices in it, and of the slices in it, without room behind it, or else
+// the value.
 func copied(v reflect.Value) reflect.Value {
+	if hasSlices(v) {
+		return eachField(v, copied)
+	}
 	if v.Kind() != reflect.Slice || v.IsNil() {
 		return v
 	}
@@ -284,6 +329,19 @@ func copied(v reflect.Value) reflect.Value {
 		list.Index(i).Set(copied(v.Index(i)))
 	}
 	return list
+}
+
+// hasSlices tells structs with slices in them from others: they cannot be compared.
+func hasSlices(v reflect.Value) bool {
+	return v.Kind() == reflect.Struct && !v.Type().Comparable()
+}
+
+func eachField(v reflect.Value, change func(reflect.Value) reflect.Value) reflect.Value {
+	changed := reflect.New(v.Type()).Elem()
+	for i := range v.NumField() {
+		changed.Field(i).Set(change(v.Field(i)))
+	}
+	return changed
 }
 
 // shares tells whether slices in a slice share memory: to overwrite the one must not change those behind it. Those are overwritten.
@@ -301,8 +359,13 @@ func shares(v reflect.Value) bool {
 	return false
 }
 
-// overwrite makes all elements of a slice zero, those in its spare capacity too.
+// overwrite makes all elements of a slice, or of those in a struct, zero, those in its spare capacity too.
 func overwrite(v reflect.Value) {
+	if hasSlices(v) {
+		for i := range v.NumField() {
+			overwrite(v.Field(i))
+		}
+	}
 	if v.Kind() != reflect.Slice {
 		return
 	}
