@@ -38,6 +38,7 @@ var anyFunctions = []any{
 	impl.IsClue, impl.IsPuzzle, impl.DoesFit, impl.Solutions, impl.CountSolutions, impl.FirstSolution, impl.SolutionTimes, impl.IsSolved,
 	impl.NeedlessClues, impl.DropClue, impl.AddClue, impl.LeftByClues, impl.BestClue, impl.HarderPuzzle, impl.MakePuzzle, impl.PuzzleText,
 	impl.ParsePuzzle,
+	impl.FirstDesk, impl.IsDesk, impl.DeskLine, impl.RunScript, impl.DeskAfter, impl.FailedLines,
 }
 
 var anyInts = []int{math.MinInt, math.MinInt + 1, -maxFraction, -10000, -1, 0, 1, 2, 12, 24, 60, 10000, 1000001, maxFraction, math.MaxInt - 1, math.MaxInt}
@@ -49,6 +50,8 @@ var anyStrings = []string{
 	"36/1", "1/0", "0/0", "-1/2", "2/4", "-9223372036854775808/-9223372036854775808", "1/" + strings.Repeat("9", 100000), "\x00/\xff",
 	"12:", "12:0.3.0,1.15.0,2.9.0", "24:1.60.59", "25:0.3.0", "12:1.0.0", "12:1.-1.-9223372036854775808", "12:0.3.0,", "12:,,,,,,", "12:" + strings.Repeat("0.3.0,", 100000),
 	strings.Repeat(":", 100000), strings.Repeat(",", 100000), strings.Repeat(".", 100000), "12:" + strings.Repeat("9", 100000), "\x00:\xff.\x80.\xfe,\xff",
+	"dial 24", "set 01:30:00", "turn 1 8", "turn 1 0", "clock 999999 999999", "with 1 2", "shown 1/0", "ahead 36/1", "best 2422 10000 100000", "best", "set ", " ", "fly", "\n", "show\nturn 1 8\nlong\nfly\n\n",
+	"with 1 2\nbest 1 2 9\nset \xff\nleap 0\n", "show\nshow", strings.Repeat("\n", 50), strings.Repeat("\n", 51), strings.Repeat(" ", 3000), strings.Repeat(" ", 2999) + "\n", strings.Repeat("show\n", 100000),
 }
 
 var anyHands = []impl.Hand{
@@ -89,6 +92,13 @@ var anyClues = []impl.Clue{
 	{}, clue(0, 3, 0), clue(1, 15, 0), clue(1, 60, 59), clue(2, 9, 0), clue(3, 0, 0), clue(3, 1, 0), clue(4, 4, 0), clue(5, 12, 0), clue(1, 0, 0), clue(1, -1, 0), clue(1, math.MinInt, -1),
 	clue(0, 3, 1), clue(0, 24, 0), clue(4, 0, 0), clue(-1, 0, 0), clue(6, 0, 0), clue(math.MinInt, math.MinInt, math.MinInt), clue(math.MaxInt, math.MaxInt, math.MaxInt),
 	clue(1, math.MaxInt, math.MaxInt-1), clue(5, math.MinInt, 0), clue(1, 2, math.MinInt),
+}
+
+var anyDesks = []impl.Desk{
+	{}, desk(12, turn(0, 1), clock(0, 1, 73, 72)), desk(24, turn(1, 999983), clock(1, 997, 1, 1000)), desk(2, turn(999999, 1000000), clock(999, 1000, 1000, 999)), desk(12, turn(1, 8), clock(1, 2, 1, 1)),
+	desk(25, turn(0, 1), clock(0, 1, 1, 1)), desk(12, turn(2, 4), clock(0, 1, 1, 1)), desk(12, turn(0, 1), clock(0, 1, 2, 2)), desk(12, turn(0, 0), clock(0, 0, 0, 0)), desk(12, turn(1, 1001), clock(1, 1001, 1, 2)),
+	desk(math.MinInt, turn(math.MinInt, math.MinInt), clock(math.MinInt, math.MinInt, math.MinInt, math.MinInt)), desk(math.MaxInt, turn(math.MaxInt, math.MaxInt), clock(math.MaxInt, math.MaxInt, math.MaxInt, math.MaxInt)),
+	desk(12, turn(0, 1), clock(0, 1, math.MinInt, -1)), desk(12, turn(1, math.MinInt), clock(0, 1, 1, math.MinInt)),
 }
 
 // anyHandLists have room behind their lengths, with hands in it that are to be left alone.
@@ -202,6 +212,10 @@ func anyValues(kind reflect.Type) []reflect.Value {
 	case reflect.TypeFor[impl.Clue]():
 		for _, c := range anyClues {
 			values = append(values, reflect.ValueOf(c))
+		}
+	case reflect.TypeFor[impl.Desk]():
+		for _, d := range anyDesks {
+			values = append(values, reflect.ValueOf(d))
 		}
 	case reflect.TypeFor[impl.Puzzle]():
 		for _, p := range anyPuzzles() {
